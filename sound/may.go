@@ -3,6 +3,7 @@ package sound
 import (
 	"theodolite/api"
 	"theodolite/dom"
+	"theodolite/parts"
 )
 
 // mayBe tells whether a unit may be (14).
@@ -71,7 +72,7 @@ func (r *reader) blocksMayBe() bool {
 	room := api.MaxIns
 	for b := range l {
 		room -= len(l[b].Ins)
-		if room < 0 || !r.endMayBe(l[b].Term) {
+		if room < 0 || !r.endMayBe(&l[b].Term) {
 			return false
 		}
 		for i := range l[b].Ins {
@@ -83,9 +84,9 @@ func (r *reader) blocksMayBe() bool {
 	return true
 }
 
-func (r *reader) endMayBe(end api.Term) bool {
-	for v := range looksOfEnd(end) {
-		if !isIn(v, r.f.Size) {
+func (r *reader) endMayBe(end *api.Term) bool {
+	for v := range parts.LooksOfEnd(end) {
+		if !isIn(*v, r.f.Size) {
 			return false
 		}
 	}
@@ -99,11 +100,11 @@ func (r *reader) endMayBe(end api.Term) bool {
 }
 
 func (r *reader) insMayBe(i *api.Ins) bool {
-	if makes(i) && !isIn(i.Dst, r.f.Size) {
+	if parts.Makes(i) && !isIn(i.Dst, r.f.Size) {
 		return false
 	}
-	for v := range looks(i) {
-		if !isIn(v, r.f.Size) {
+	for v := range parts.Looks(i) {
+		if !isIn(*v, r.f.Size) {
 			return false
 		}
 	}

@@ -3,6 +3,7 @@ package sound
 import (
 	"theodolite/api"
 	"theodolite/dom"
+	"theodolite/parts"
 )
 
 // walk goes through a function's places.
@@ -38,7 +39,7 @@ func madeIn(f api.Func) []place {
 	for b := range f.Blocks {
 		for n := range f.Blocks[b].Ins {
 			i := &f.Blocks[b].Ins[n]
-			if makes(i) && l[i.Dst].block < 0 {
+			if parts.Makes(i) && l[i.Dst].block < 0 {
 				l[i.Dst] = place{b, n}
 			}
 		}
@@ -63,8 +64,8 @@ func (w *walk) through() {
 			w.instruction(&l[n])
 		}
 		w.at.ins = len(l)
-		for v := range looksOfEnd(w.blocks[b].Term) {
-			w.must(w.isThere(v, w.at))
+		for v := range parts.LooksOfEnd(&w.blocks[b].Term) {
+			w.must(w.isThere(*v, w.at))
 		}
 	}
 }
@@ -81,11 +82,11 @@ func (w *walk) instruction(i *api.Ins) {
 			w.must(w.isThere(i.Args[way], place{from, len(w.blocks[from].Ins)}))
 		}
 	default:
-		for v := range looks(i) {
-			w.must(w.isThere(v, w.at))
+		for v := range parts.Looks(i) {
+			w.must(w.isThere(*v, w.at))
 		}
 	}
-	if makes(i) {
+	if parts.Makes(i) {
 		w.must(w.made[i.Dst] == w.at)
 	}
 }
